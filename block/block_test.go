@@ -736,6 +736,53 @@ func TestWithin(t *testing.T) { // P20.4, P1: a row that has itself within
 	}
 }
 
+func TestTwoWithin(t *testing.T) { // P20.4, P1: trees that each have themselves within
+	loop := func(rows int, last api.Node) api.Node {
+		lists := make([][]api.Node, rows)
+		for i := range lists {
+			lists[i] = make([]api.Node, 3)
+		}
+		for i, l := range lists {
+			l[0], l[1], l[2] = row(lists[(i+1)%rows]...), last, row(lists[(i*i+1)%rows]...)
+			l[0].Kids, l[2].Kids = lists[(i+1)%rows], lists[(i*i+1)%rows]
+			last = word("a")
+		}
+		return api.Node{Kind: 2, Kids: lists[0]}
+	}
+	if many := loop(300, word("a")); !block.Same(many, many) {
+		t.Error("Same of a tree and itself")
+	}
+	for _, rows := range []int{1, 2, 3, 5, 8} {
+		if !block.Same(loop(rows, word("a")), loop(rows, word("a"))) || !block.Same(loop(1, word("a")), loop(rows, word("a"))) {
+			t.Errorf("Same of alike rows, %d of them, that have themselves within", rows)
+		}
+		if block.Same(loop(rows, word("a")), loop(rows, word("b"))) || block.Same(loop(rows, word("b")), loop(1, word("a"))) {
+			t.Errorf("Same of unlike rows, %d of them, that have themselves within", rows)
+		}
+	}
+}
+
+func TestSharedRows(t *testing.T) { // P20.4: rows that are one in memory, in one of two trees or in both
+	of := func(kids []api.Node) api.Node { return api.Node{Kind: 2, Kids: kids} }
+	one, alike, other := []api.Node{word("a"), word("b")}, []api.Node{word("a"), word("b")}, []api.Node{word("a"), word("c")}
+	for _, c := range []struct {
+		a, b api.Node
+		want bool
+	}{
+		{row(of(one), of(one)), row(of(alike), of(alike)), true},
+		{row(of(one), of(one)), row(of(one), of(alike)), true},
+		{row(of(one), of(one)), row(of(other), of(alike)), false},
+		{row(of(one), of(one)), row(of(alike), of(other)), false},
+		{row(of(one), of(one[:1])), row(of(other), of(other[:1])), false},
+		{row(of(one[:1]), of(one)), row(of(other[:1]), of(other)), false},
+		{row(of(one[:1]), of(one[1:])), row(of(other[:1]), of(alike[1:])), true},
+	} {
+		if block.Same(c.a, c.b) != c.want || block.Same(c.b, c.a) != c.want {
+			t.Errorf("Same(%v, %v) isn't %v", c.a, c.b, c.want)
+		}
+	}
+}
+
 func TestCopy(t *testing.T) { // P20.4, P3
 	n := parts([]string{"a", "b"}, row(word("c"), word("d")), word("e"))
 	n.Line, n.Kids[0].Line, n.Kids[0].Kids[1].Line = 1, 2, 3
