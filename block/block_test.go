@@ -839,6 +839,16 @@ func TestMemory(t *testing.T) { // P3, P5
 		got, _ := block.At(n, path...)
 		_ = append(got.Keys, "x", "y")
 		_ = append(got.Kids, word("x"), word("y"))
+		for i := range got.Keys {
+			got.Keys[i] = "x"
+		}
+		for i := range got.Kids {
+			got.Kids[i] = word("x")
+		}
+	}
+	deep := api.Node{Kind: 2, Kids: append(make([]api.Node, 0, 3), rows(18, word("a")))}
+	if got, ok := block.At(deep); !ok || cap(got.Kids) != 1 || !block.Same(got, rows(19, word("a"))) {
+		t.Errorf("At of many levels: %v, %v, room for %d", got, ok, cap(got.Kids))
 	}
 	own := block.Copy(n)
 	_ = append(own.Keys, "x", "y")
